@@ -79,26 +79,21 @@ func (w *writer) sides(op int, mark string) {
 
 // side writes a kid of a Sum or a Mul, between brackets if it needs them.
 func (w *writer) side(op int, second bool) {
-	if needsBrackets(w.left[0].Op, op, second) {
+	if NeedsBrackets(w.left[0].Op, op, second) {
 		w.WriteByte('(')
 		defer w.WriteByte(')')
 	}
 	w.expression()
 }
 
-// needsBrackets tells whether a kid of a Sum or a Mul would be read as another one without brackets.
-func needsBrackets(kid, op int, second bool) bool {
-	// What binds alike goes from the left, so that the first one is read right.
-	return binds(kid) < binds(op) || second && binds(kid) == binds(op)
-}
-
-// binds tells how much an Op binds. What is neither a Sum nor a Mul holds together, whatever stands about it.
-func binds(op int) int {
+// NeedsBrackets tells whether a kid of an Op, its second one or another, would be read as part of something else without brackets about it. Only kids of a Sum or a Mul may be.
+func NeedsBrackets(kid, op int, second bool) bool {
 	switch op {
 	case api.Sum:
-		return 1
+		// What binds alike goes from the left, so that the first one is read right.
+		return second && kid == api.Sum
 	case api.Mul:
-		return 2
+		return kid == api.Sum || second && kid == api.Mul
 	}
-	return 3
+	return false
 }

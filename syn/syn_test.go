@@ -214,6 +214,22 @@ func TestNeeded(t *testing.T) {
 	}
 }
 
+// TestNeedsBrackets: of all Ops, and of numbers that are none.
+func TestNeedsBrackets(t *testing.T) {
+	needed := [][3]int{{api.Mul, 0, api.Sum}, {api.Mul, 1, api.Sum}, {api.Sum, 1, api.Sum}, {api.Mul, 1, api.Mul}}
+	numbers := []int{math.MinInt, -1, 0, 1, 2, 3, 4, 5, 6, 7, 8, 9, 10, math.MaxInt}
+	for _, op := range numbers {
+		for _, kid := range numbers {
+			for place := range 2 {
+				want := slices.Contains(needed, [3]int{op, place, kid})
+				if got := NeedsBrackets(kid, op, place == 1); got != want {
+					t.Errorf("kid %d of %d at %d: %v, want %v", kid, op, place, got, want)
+				}
+			}
+		}
+	}
+}
+
 func TestPrintNotes(t *testing.T) {
 	words := strings.Split(strings.Repeat("ab #c ; let ", 15), " ")[:60]
 	for n := 1; n <= 60; n++ {
