@@ -885,6 +885,14 @@ func TestWidths(t *testing.T) {
 	}
 	for _, width := range wrongWidths {
 		refuseText(t, "", width, 0, api.ErrRange)
+		if err := CheckWidth(width); plain.Told(err) != api.ErrRange {
+			t.Errorf("%d: %v", width, err)
+		}
+	}
+	for width := 10; width <= api.MaxWidth; width++ {
+		if err := CheckWidth(width); err != nil {
+			t.Errorf("%d: %v", width, err)
+		}
 	}
 }
 
