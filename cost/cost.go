@@ -42,7 +42,7 @@ func Of(text string, width int) (api.Cost, error) {
 	}
 	// The first line has no byte 10 ahead of it: Lines counts the bytes, not the lines.
 	c := api.Cost{Lines: -1}
-	for line := range lines(text) {
+	for line := range Lines(text) {
 		c.Lines++
 		c.Over += max(len(line)-width, 0)
 	}
@@ -61,8 +61,8 @@ func check(costs ...api.Cost) error {
 
 func fits(n int) bool { return 0 <= n && n <= api.MaxCost }
 
-// lines goes through what stands between the bytes 10 of a text: always at least one line, which may be empty.
-func lines(text string) iter.Seq[string] {
+// Lines goes through what stands between the bytes 10 of a text: always at least one line, which may be empty.
+func Lines(text string) iter.Seq[string] {
 	return func(yield func(string) bool) {
 		rest, found := text, true
 		for found {

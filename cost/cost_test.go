@@ -263,16 +263,16 @@ func TestOfWider(t *testing.T) {
 
 func TestLines(t *testing.T) {
 	for _, text := range []string{"", "\n", "a", "a\n", "\na", "a\n\nb", "ab\ncd\n\n"} {
-		seq := lines(text)
+		seq := Lines(text)
 		want := strings.Split(text, "\n")
 		for range 2 {
 			if got := slices.Collect(seq); !slices.Equal(got, want) {
-				t.Errorf("lines(%q): got %q, want %q", text, got, want)
+				t.Errorf("Lines(%q): got %q, want %q", text, got, want)
 			}
 		}
 		for line := range seq {
 			if line != want[0] {
-				t.Errorf("lines(%q): first is %q, want %q", text, line, want[0])
+				t.Errorf("Lines(%q): first is %q, want %q", text, line, want[0])
 			}
 			break
 		}
